@@ -1,0 +1,1 @@
+"""Flagclause: command-line grammars with exact completion."""
