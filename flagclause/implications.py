@@ -12,7 +12,7 @@ def find_chain(grammar, start, goal):
     names = option_names(grammar)
     check_literal(names, start)
     check_literal(names, goal)
-    return shortest_chains(grammar[2], [start]).get(goal)
+    return shortest_chain(grammar[2], [start], [goal])
 
 
 def consequences(grammar, literals):
@@ -27,10 +27,15 @@ def consequences(grammar, literals):
 
 def check_literal(names, literal):
     """Raise UnknownOption unless something is a literal about these names."""
-    if not is_tuple_of(literal, 2) or not isinstance(literal[1], bool):
+    if not has_form_of_literal(literal):
         raise UnknownOption(None)
     if literal[0] not in names:
         raise UnknownOption(literal[0])
+
+
+def has_form_of_literal(literal):
+    """Return whether something is a pair of anything and a truth."""
+    return is_tuple_of(literal, 2) and isinstance(literal[1], bool)
 
 
 def contrary(literal):
@@ -54,6 +59,16 @@ def steps_of(clauses):
         steps.setdefault(contrary(first), []).append(second)
         steps.setdefault(contrary(second), []).append(first)
     return steps
+
+
+def shortest_chain(clauses, starts, goals):
+    """Return the shortest chain from one of several literals to one of others, or None.
+
+    It is the smallest one in list order of several.
+    """
+    chains = shortest_chains(clauses, starts)
+    found = [chains[goal] for goal in goals if goal in chains]
+    return min(found, key=lambda chain: (len(chain), chain), default=None)
 
 
 def shortest_chains(clauses, starts):

@@ -7,65 +7,10 @@ import unittest
 from flagclause import implications
 from flagclause.errors import InvalidGrammar, UnknownOption
 from flagclause.implications import consequences, find_chain
-from tests.helper import EXAMPLE, error_of, flags, grammar_of
-
-INVALID_GRAMMARS = (
-    (None, "grammar", 0),
-    (list(EXAMPLE), "grammar", 0),
-    (grammar_of("a a"), "options", 1),
-    ((flags("a"), (2, 1), ()), "positionals", 1),
-    (grammar_of("a b", "needs a b", "needs a c"), "clauses", 1),
+from tests.helper import (
+    EXAMPLE, INVALID_GRAMMARS, NO_NAMES, NO_PAIRS, all_literals, chain_by_search, error_of, grammar_of,
+    grammars_for_search, literal, literals,
 )
-
-
-def literal(text):
-    """Return the literal that "+name" or "-name" stands for."""
-    return (text[1:], text[0] == "+")
-
-
-def literals(text):
-    return [literal(part) for part in text.split()]
-
-
-def is_step(grammar, first, second):
-    """Return whether some clause has a step, as the document words it."""
-    (one, truth), (other, other_truth) = first, second
-    wanted = {
-        (False, True): [("either", one, other), ("either", other, one)],
-        (True, False): [("excludes", one, other), ("excludes", other, one)],
-        (True, True): [("needs", one, other)],
-        (False, False): [("needs", other, one)],
-    }
-    return any(clause in grammar[2] for clause in wanted[truth, other_truth])
-
-
-def all_literals(grammar):
-    return [(option[0], truth) for option in grammar[0] for truth in (False, True)]
-
-
-def chain_by_search(grammar, start, goal):
-    """Return the smallest of all shortest chains, found by making every one."""
-    chains = [[start]]
-    for _ in all_literals(grammar):
-        found = [chain for chain in chains if chain[-1] == goal]
-        if found:
-            return min(found)
-        chains = [
-            chain + [item]
-            for chain in chains
-            for item in all_literals(grammar)
-            if item not in chain and is_step(grammar, chain[-1], item)
-        ]
-    return None
-
-
-def grammars_for_search():
-    source = random.Random(5)
-    for _ in range(150):
-        names = source.sample(["a", "b", "c", "d-e", "de", "z"], source.randint(1, 4))
-        words = [source.choice(["needs", "excludes", "either"]) for _ in range(source.randint(0, 8))]
-        clauses = tuple((word, source.choice(names), source.choice(names)) for word in words)
-        yield flags(*names), (0, 0), clauses
 
 
 class FindChainTest(unittest.TestCase):
@@ -234,7 +179,7 @@ class FindChainErrorsTest(unittest.TestCase):
                 self.assertEqual((error.part, error.index), (part, index))
 
     def test_unknown_names(self):
-        for name in ("", "keys", "ke", "s", "KEY", "-", None, 0, 5, True, False, (), ("key",), [], ["key"], [["key"]]):
+        for name in NO_NAMES:
             with self.subTest(name):
                 self.unknown((name, True), ("key", True), name)
                 self.unknown((name, False), ("key", True), name)
@@ -242,13 +187,7 @@ class FindChainErrorsTest(unittest.TestCase):
                 self.unknown(("key", True), (name, False), name)
 
     def test_not_a_tuple_with_a_boolean(self):
-        items = (
-            None, 0, 1, True, False, "", "key", "ke", (), ("key",), ("key", True, True), ("keys", True, True),
-            ["key", True], ["keys", True], [], [("key", True)], (("key", True),), ("key", 1), ("key", 0),
-            ("key", None), ("key", "True"), ("key", ""), ("keys", 1), ("keys", None), ("key", (True,)),
-            ("key", [True]), (True, "key"), (True,), (None, None),
-        )
-        for item in items:
+        for item in NO_PAIRS:
             with self.subTest(item):
                 self.unknown(item, ("key", True), None)
                 self.unknown(("key", True), item, None)
