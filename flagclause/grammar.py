@@ -74,6 +74,11 @@ def names_of(options):
     return [option[0] for option in options]
 
 
+def kinds_of(options):
+    """Return a dict from the names of valid options to their kinds, in their order."""
+    return {name: kind for name, _, kind in options}
+
+
 def is_option(option):
     """Return whether something is an option, as far as it tells by itself."""
     if not is_tuple_of(option, 3):

@@ -6,6 +6,7 @@ The searches follow the words of the document and use nothing of the package.
 import copy
 import itertools
 import random
+import re
 
 from flagclause.errors import InvalidGrammar
 
@@ -14,6 +15,31 @@ EXAMPLE = (
     (0, 2),
     (("needs", "sign", "key"), ("excludes", "key", "raw")),
 )
+
+# The grammar of the examples about lines, with every kind of option.
+LINE_EXAMPLE = (
+    (
+        ("sign", "s", None),
+        ("key", "k", ("word",)),
+        ("level", "l", ("int", 0, 9)),
+        ("mode", "", ("choice", ("fast", "full", "slow"))),
+    ),
+    (0, 2),
+    (("needs", "sign", "key"),),
+)
+
+VALID_CHARACTERS = "".join(chr(code) for code in range(ord(" "), ord("~") + 1) if chr(code) != "%")
+INVALID_CHARACTERS = ("%", "\x00", "\t", "\n", "\x1f", "\x7f", "\x80", "\u00e9", "\u0661", "\U0001f600")
+
+# Values of every kind that are no tokens.
+NO_TOKENS = (
+    None, True, False, 0, 1, -1, 10 ** 5000, (), ("a",), [], ["a"], {}, {"a": True}, "a" * 201, " " * 1000,
+    *INVALID_CHARACTERS, *[f"a{character}" for character in INVALID_CHARACTERS],
+    *[f"{character}a" for character in INVALID_CHARACTERS], "a" * 199 + "%", "%" * 201,
+)
+
+# Values of every kind that are neither lists nor tuples.
+NO_LISTS = (None, True, False, 0, 5, -1, "", "a", "--sign", {}, {"a": True})
 
 # Values of every kind that may stand at any place of an invalid grammar.
 ODD_VALUES = (
@@ -179,6 +205,91 @@ def large_grammars(seed=7, count=6):
         clauses = [clause for clause in random_clauses(source, names, 600) if is_met(clause, chosen)]
         found.append((flags(*names), (0, 0), tuple(clauses[:60])))
     return found
+
+
+def tokens_by_search(line):
+    """Return the tokens of a line, or the index of the first part that does not end."""
+    part = re.compile(r"""[^ '"\\]|\\.|'[^']*'|"(?:\\.|[^"\\])*\"""")
+    tokens, index, is_apart = [], 0, True
+    while index < len(line):
+        found = part.match(line, index)
+        if line[index] == " ":
+            is_apart = True
+            index += 1
+            continue
+        if not found:
+            return index
+        text = found.group()
+        if text[0] == "'":
+            text = text[1:-1]
+        else:
+            text = re.sub(r"\\(.)", r"\1", text[1:-1] if text[0] == '"' else text)
+        if is_apart:
+            tokens.append("")
+        tokens[-1] += text
+        is_apart = False
+        index = found.end()
+    return tokens
+
+
+def value_by_search(kind, text):
+    """Return the value that a text represents, or None."""
+    if kind[0] == "int":
+        return {str(number): number for number in range(kind[1], kind[2] + 1)}.get(text)
+    if kind[0] == "choice":
+        found = [word for word in kind[1] if word == text] or [word for word in kind[1] if re.match(text + "[a-z]", word)]
+        return found[0] if len(found) == 1 and text else None
+    return text
+
+
+def reading_by_search(grammar, tokens):
+    """Return what read_prefix returns for valid tokens, or the index and the reason of an error."""
+    given, words, queue = {}, [], list(enumerate(tokens))
+    kinds = {option[0]: option[2] for option in grammar[0]}
+    shorts = {option[1]: option[0] for option in grammar[0] if option[1]}
+    is_separated = False
+    while queue:
+        index, token = queue.pop(0)
+        # What a token says: pairs of an option, or of a reason, and the text of a value or None.
+        if not is_separated and token == "--":
+            is_separated = True
+            continue
+        if not is_separated and re.match("--.", token):
+            text, sign, rest = re.fullmatch("--([^=]*)(=?)(.*)", token).groups()
+            found = [text] if text in kinds else [name for name in kinds if text and name[:len(text)] == text]
+            name = found[0] if len(found) == 1 else ["unknown", "ambiguous"][len(found) > 1]
+            said = [(name, rest if sign else None)]
+        elif not is_separated and re.match("-[a-z]", token):
+            said, rest = [], token[1:]
+            while rest:
+                name, rest = shorts.get(rest[0], "unknown"), rest[1:]
+                text = None
+                if kinds.get(name) and rest:
+                    text, rest = rest, ""
+                said.append((name, text))
+        else:
+            if len(words) == grammar[1][1]:
+                return (index, "positionals")
+            words.append(token)
+            continue
+        for name, text in said:
+            if name not in kinds:
+                return (index, name)
+            if name in given:
+                return (index, "repeated")
+            if kinds[name] is None:
+                if text is not None:
+                    return (index, "value")
+                given[name] = True
+                continue
+            if text is None:
+                if not queue:
+                    return (given, words, name, is_separated)
+                index, text = queue.pop(0)
+            given[name] = value_by_search(kinds[name], text)
+            if given[name] is None:
+                return (index, "value")
+    return (given, words, None, is_separated)
 
 
 def check_defined_in(test, file, *functions):

@@ -24,7 +24,9 @@ class LanguageTest(unittest.TestCase):
     def test_characters(self):
         def check(text):
             self.assertEqual([letter for letter in text if letter != "\n" and not " " <= letter <= "~"], [])
-            self.assertNotIn("%", text)
+            for node in ast.walk(ast.parse(text)):
+                if isinstance(node, ast.Constant) and isinstance(node.value, str):
+                    self.assertNotIn("%", node.value)
 
         self.check_files(check)
 
