@@ -36,10 +36,15 @@ def check_given(grammar, given):
     """Raise UnknownOption, Unsatisfiable or Conflict unless the given options can be completed."""
     check_names(option_names(grammar), given)
     check_satisfiable(grammar)
-    goals = [contrary(literal) for literal in all_given(given)]
-    chain = shortest_chain(grammar[2], all_given(given), goals)
+    chain = conflict_chain(grammar[2], given)
     if chain is not None:
         raise Conflict(tuple(chain))
+
+
+def conflict_chain(clauses, given):
+    """Return the shortest chain that shows that the given options cannot be completed, or None."""
+    goals = [contrary(literal) for literal in all_given(given)]
+    return shortest_chain(clauses, all_given(given), goals)
 
 
 def verdict(clauses, given, name):
